@@ -1,11 +1,8 @@
 package front
 
 import (
-	"slices"
-
 	"remuda/api"
-	"remuda/digits"
-	"remuda/num"
+	"remuda/wire"
 )
 
 // said answers f with those of its fields alone that its body has.
@@ -37,26 +34,11 @@ func rightWhat(f api.Front) bool {
 	return f.Kind != 'C' && f.Kind != 'D' || f.What == ofStmt || f.What == ofPortal
 }
 
+// rightLists tells whether lists are no longer than may be, and what they hold may be said.
 func rightLists(f api.Front) bool {
-	return areUnsigned(f.OIDs, oidSize) && areUnsigned(f.Formats, formatSize) && areUnsigned(f.Results, formatSize) && areCells(f.Params)
-}
-
-func areUnsigned(list []int, size int) bool {
-	return len(list) <= api.MaxCount && !slices.ContainsFunc(list, func(n int) bool {
-		return n < 0 || !num.Right(n, size)
-	})
-}
-
-func areCells(list []api.Cell) bool {
-	return len(list) <= api.MaxCount && !slices.ContainsFunc(list, func(c api.Cell) bool {
-		return len(c.Bytes) > mostCell || c.Null && len(c.Bytes) > 0
-	})
-}
-
-func isSigned(n int) bool {
-	return num.Right(n, maxSize) && num.Signed(n, maxSize) == n
-}
-
-func clean(texts ...string) bool {
-	return !slices.ContainsFunc(texts, func(s string) bool { return !digits.Clean(s) })
+	return max(len(f.OIDs), len(f.Formats), len(f.Results), len(f.Params)) <= api.MaxCount &&
+		wire.Unsigned(oidSize, f.OIDs...) &&
+		wire.Unsigned(formatSize, f.Formats...) &&
+		wire.Unsigned(formatSize, f.Results...) &&
+		wire.RightCells(f.Params...)
 }

@@ -44,3 +44,12 @@ func SameCells(a, b []api.Cell) bool {
 		return x.Null == y.Null && bytes.Equal(x.Bytes, y.Bytes)
 	})
 }
+
+// CopyCells answers the cells with bytes of their own.
+func CopyCells(l []api.Cell) []api.Cell {
+	cells := slices.Clone(l)
+	for i := range cells {
+		cells[i].Bytes = slices.Clone(cells[i].Bytes)
+	}
+	return cells
+}

@@ -116,3 +116,23 @@ func TestRightCells(t *testing.T) {
 		}
 	}
 }
+
+// Copied cells are the same, and share nothing, room behind them included.
+func TestCopyCells(t *testing.T) {
+	for _, list := range [][]api.Cell{nil, {}, {{}}, {{Null: true}, {Bytes: []byte("ab")}}, append(make([]api.Cell, 0, 4), api.Cell{Bytes: append(make([]byte, 0, 8), "ab"...)})} {
+		got := CopyCells(list)
+		if !SameCells(got, list) {
+			t.Errorf("of %v the copy is %v", list, got)
+		}
+		for i := range got {
+			clear(got[i].Bytes[:cap(got[i].Bytes)])
+			got[i].Null = !got[i].Null
+		}
+		clear(got[:cap(got)])
+		for _, c := range list {
+			if string(c.Bytes) != "ab" && len(c.Bytes) > 0 {
+				t.Errorf("a copied cell is %q", c.Bytes)
+			}
+		}
+	}
+}
